@@ -13,6 +13,7 @@ var waysOf = []struct {
 	ways  []string
 }{
 	{"octet", []string{"range-integer", "closure", "embedding", "three-index"}},
+	{"disk", []string{"embedding", "closure", "range-function", "copy", "label"}},
 }
 
 func TestWays(t *testing.T) {
