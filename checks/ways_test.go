@@ -14,6 +14,7 @@ var waysOf = []struct {
 }{
 	{"octet", []string{"range-integer", "closure", "embedding", "three-index"}},
 	{"disk", []string{"embedding", "closure", "range-function", "copy", "label"}},
+	{"sum", []string{"closure", "range-integer", "three-index"}},
 }
 
 func TestWays(t *testing.T) {
