@@ -15,6 +15,7 @@ var waysOf = []struct {
 	{"octet", []string{"range-integer", "closure", "embedding", "three-index"}},
 	{"disk", []string{"embedding", "closure", "range-function", "copy", "label"}},
 	{"sum", []string{"closure", "range-integer", "three-index"}},
+	{"wal", []string{"range-function", "label", "embedding", "closure", "copy"}},
 }
 
 func TestWays(t *testing.T) {
