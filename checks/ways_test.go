@@ -16,6 +16,7 @@ var waysOf = []struct {
 	{"disk", []string{"embedding", "closure", "range-function", "copy", "label"}},
 	{"sum", []string{"closure", "range-integer", "three-index"}},
 	{"wal", []string{"range-function", "label", "embedding", "closure", "copy"}},
+	{"record", []string{"embedding", "method-value", "map"}},
 }
 
 func TestWays(t *testing.T) {
