@@ -23,6 +23,7 @@ const mostLines = 60
 // calls says of each layer which of the module's packages it may import besides api.
 var calls = map[string]string{
 	"octet":    "",
+	"sample":   "graph",
 	"disk":     "",
 	"sum":      "octet",
 	"wal":      "octet disk sum",

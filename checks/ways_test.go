@@ -17,6 +17,7 @@ var waysOf = []struct {
 	{"sum", []string{"closure", "range-integer", "three-index"}},
 	{"wal", []string{"range-function", "label", "embedding", "closure", "copy"}},
 	{"record", []string{"embedding", "method-value", "map"}},
+	{"graph", []string{"range-function", "closure", "variadic"}},
 }
 
 func TestWays(t *testing.T) {
