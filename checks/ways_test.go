@@ -18,6 +18,7 @@ var waysOf = []struct {
 	{"wal", []string{"range-function", "label", "embedding", "closure", "copy"}},
 	{"record", []string{"embedding", "method-value", "map"}},
 	{"graph", []string{"range-function", "closure", "variadic"}},
+	{"keys", []string{"array", "range-function", "array-compared"}},
 }
 
 func TestWays(t *testing.T) {
