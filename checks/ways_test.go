@@ -19,6 +19,7 @@ var waysOf = []struct {
 	{"record", []string{"embedding", "method-value", "map"}},
 	{"graph", []string{"range-function", "closure", "variadic"}},
 	{"keys", []string{"array", "range-function", "array-compared"}},
+	{"ops", []string{"array", "closure", "range-function", "variadic"}},
 }
 
 func TestWays(t *testing.T) {
