@@ -20,6 +20,7 @@ var waysOf = []struct {
 	{"graph", []string{"range-function", "closure", "variadic"}},
 	{"keys", []string{"array", "range-function", "array-compared"}},
 	{"ops", []string{"array", "closure", "range-function", "variadic"}},
+	{"plan", []string{"range-function", "struct-compared", "closure", "generic-function"}},
 }
 
 func TestWays(t *testing.T) {
