@@ -21,6 +21,7 @@ var waysOf = []struct {
 	{"keys", []string{"array", "range-function", "array-compared"}},
 	{"ops", []string{"array", "closure", "range-function", "variadic"}},
 	{"plan", []string{"range-function", "struct-compared", "closure", "generic-function"}},
+	{"region", []string{"pointer", "range-function", "variadic"}},
 }
 
 func TestWays(t *testing.T) {
