@@ -22,6 +22,7 @@ var waysOf = []struct {
 	{"ops", []string{"array", "closure", "range-function", "variadic"}},
 	{"plan", []string{"range-function", "struct-compared", "closure", "generic-function"}},
 	{"region", []string{"pointer", "range-function", "variadic"}},
+	{"slots", []string{"map", "closure", "generic-function"}},
 }
 
 func TestWays(t *testing.T) {
