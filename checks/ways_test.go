@@ -23,6 +23,7 @@ var waysOf = []struct {
 	{"plan", []string{"range-function", "struct-compared", "closure", "generic-function"}},
 	{"region", []string{"pointer", "range-function", "variadic"}},
 	{"slots", []string{"map", "closure", "generic-function"}},
+	{"table", []string{"binary-search", "copy", "closure", "range-function"}},
 }
 
 func TestWays(t *testing.T) {
