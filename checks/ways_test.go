@@ -24,6 +24,7 @@ var waysOf = []struct {
 	{"region", []string{"pointer", "range-function", "variadic"}},
 	{"slots", []string{"map", "closure", "generic-function"}},
 	{"table", []string{"binary-search", "copy", "closure", "range-function"}},
+	{"deno", []string{"closure", "range-function", "generic-function"}},
 }
 
 func TestWays(t *testing.T) {
