@@ -25,6 +25,7 @@ var waysOf = []struct {
 	{"slots", []string{"map", "closure", "generic-function"}},
 	{"table", []string{"binary-search", "copy", "closure", "range-function"}},
 	{"deno", []string{"closure", "range-function", "generic-function"}},
+	{"link", []string{"copy", "range-function", "closure"}},
 }
 
 func TestWays(t *testing.T) {
