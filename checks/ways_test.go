@@ -26,6 +26,7 @@ var waysOf = []struct {
 	{"table", []string{"binary-search", "copy", "closure", "range-function"}},
 	{"deno", []string{"closure", "range-function", "generic-function"}},
 	{"link", []string{"copy", "range-function", "closure"}},
+	{"gate", []string{"range-function", "variadic", "copy"}},
 }
 
 func TestWays(t *testing.T) {
