@@ -27,6 +27,7 @@ var waysOf = []struct {
 	{"deno", []string{"closure", "range-function", "generic-function"}},
 	{"link", []string{"copy", "range-function", "closure"}},
 	{"gate", []string{"range-function", "variadic", "copy"}},
+	{"txlog", []string{"binary-search", "copy", "closure", "map", "variadic"}},
 }
 
 func TestWays(t *testing.T) {
