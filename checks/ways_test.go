@@ -28,6 +28,7 @@ var waysOf = []struct {
 	{"link", []string{"copy", "range-function", "closure"}},
 	{"gate", []string{"range-function", "variadic", "copy"}},
 	{"txlog", []string{"binary-search", "copy", "closure", "map", "variadic"}},
+	{"sink", []string{"variadic", "map", "closure", "copy"}},
 }
 
 func TestWays(t *testing.T) {
