@@ -29,6 +29,7 @@ var waysOf = []struct {
 	{"gate", []string{"range-function", "variadic", "copy"}},
 	{"txlog", []string{"binary-search", "copy", "closure", "map", "variadic"}},
 	{"sink", []string{"variadic", "map", "closure", "copy"}},
+	{"snap", []string{"array-compared", "range-function", "copy", "variadic"}},
 }
 
 func TestWays(t *testing.T) {
