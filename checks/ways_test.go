@@ -30,6 +30,7 @@ var waysOf = []struct {
 	{"txlog", []string{"binary-search", "copy", "closure", "map", "variadic"}},
 	{"sink", []string{"variadic", "map", "closure", "copy"}},
 	{"snap", []string{"array-compared", "range-function", "copy", "variadic"}},
+	{"task", []string{"map", "method-expression", "embedding", "promoted", "variadic"}},
 }
 
 func TestWays(t *testing.T) {
