@@ -31,6 +31,7 @@ var waysOf = []struct {
 	{"sink", []string{"variadic", "map", "closure", "copy"}},
 	{"snap", []string{"array-compared", "range-function", "copy", "variadic"}},
 	{"task", []string{"map", "method-expression", "embedding", "promoted", "variadic"}},
+	{"register", []string{"map", "embedding", "closure", "delete"}},
 }
 
 func TestWays(t *testing.T) {
