@@ -32,6 +32,7 @@ var waysOf = []struct {
 	{"snap", []string{"array-compared", "range-function", "copy", "variadic"}},
 	{"task", []string{"map", "method-expression", "embedding", "promoted", "variadic"}},
 	{"register", []string{"map", "embedding", "closure", "delete"}},
+	{"lease", []string{"closure", "fallthrough", "struct-compared"}},
 }
 
 func TestWays(t *testing.T) {
