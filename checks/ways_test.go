@@ -33,6 +33,7 @@ var waysOf = []struct {
 	{"task", []string{"map", "method-expression", "embedding", "promoted", "variadic"}},
 	{"register", []string{"map", "embedding", "closure", "delete"}},
 	{"lease", []string{"closure", "fallthrough", "struct-compared"}},
+	{"coord", []string{"binary-search", "copy", "closure", "range-function"}},
 }
 
 func TestWays(t *testing.T) {
