@@ -34,6 +34,7 @@ var waysOf = []struct {
 	{"register", []string{"map", "embedding", "closure", "delete"}},
 	{"lease", []string{"closure", "fallthrough", "struct-compared"}},
 	{"coord", []string{"binary-search", "copy", "closure", "range-function"}},
+	{"retain", []string{"range-function", "closure", "struct-compared"}},
 }
 
 func TestWays(t *testing.T) {
