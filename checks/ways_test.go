@@ -35,6 +35,7 @@ var waysOf = []struct {
 	{"lease", []string{"closure", "fallthrough", "struct-compared"}},
 	{"coord", []string{"binary-search", "copy", "closure", "range-function"}},
 	{"retain", []string{"range-function", "closure", "struct-compared"}},
+	{"store", []string{"map", "range-function", "embedding", "closure"}},
 }
 
 func TestWays(t *testing.T) {
