@@ -36,6 +36,7 @@ var waysOf = []struct {
 	{"coord", []string{"binary-search", "copy", "closure", "range-function"}},
 	{"retain", []string{"range-function", "closure", "struct-compared"}},
 	{"store", []string{"map", "range-function", "embedding", "closure"}},
+	{"job", []string{"array", "iota", "map"}},
 }
 
 func TestWays(t *testing.T) {
