@@ -37,6 +37,7 @@ var waysOf = []struct {
 	{"retain", []string{"range-function", "closure", "struct-compared"}},
 	{"store", []string{"map", "range-function", "embedding", "closure"}},
 	{"job", []string{"array", "iota", "map"}},
+	{"heart", []string{"binary-search", "copy", "range-function", "closure"}},
 }
 
 func TestWays(t *testing.T) {
