@@ -38,6 +38,7 @@ var waysOf = []struct {
 	{"store", []string{"map", "range-function", "embedding", "closure"}},
 	{"job", []string{"array", "iota", "map"}},
 	{"heart", []string{"binary-search", "copy", "range-function", "closure"}},
+	{"frame", []string{"method-value", "map", "embedding", "generic-function", "generic-type"}},
 }
 
 func TestWays(t *testing.T) {
