@@ -39,6 +39,7 @@ var waysOf = []struct {
 	{"job", []string{"array", "iota", "map"}},
 	{"heart", []string{"binary-search", "copy", "range-function", "closure"}},
 	{"frame", []string{"method-value", "map", "embedding", "generic-function", "generic-type"}},
+	{"net", []string{"binary-search", "copy", "range-function", "closure"}},
 }
 
 func TestWays(t *testing.T) {
