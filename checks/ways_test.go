@@ -40,6 +40,7 @@ var waysOf = []struct {
 	{"heart", []string{"binary-search", "copy", "range-function", "closure"}},
 	{"frame", []string{"method-value", "map", "embedding", "generic-function", "generic-type"}},
 	{"net", []string{"binary-search", "copy", "range-function", "closure"}},
+	{"cluster", []string{"map", "method-expression", "embedding", "promoted", "generic-function", "label"}},
 }
 
 func TestWays(t *testing.T) {
