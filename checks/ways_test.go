@@ -41,6 +41,7 @@ var waysOf = []struct {
 	{"frame", []string{"method-value", "map", "embedding", "generic-function", "generic-type"}},
 	{"net", []string{"binary-search", "copy", "range-function", "closure"}},
 	{"cluster", []string{"map", "method-expression", "embedding", "promoted", "generic-function", "label"}},
+	{"manager", []string{"map", "method-value", "embedding", "range-function", "closure"}},
 }
 
 func TestWays(t *testing.T) {
