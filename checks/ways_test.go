@@ -42,6 +42,7 @@ var waysOf = []struct {
 	{"net", []string{"binary-search", "copy", "range-function", "closure"}},
 	{"cluster", []string{"map", "method-expression", "embedding", "promoted", "generic-function", "label"}},
 	{"manager", []string{"map", "method-value", "embedding", "range-function", "closure"}},
+	{"world", []string{"map", "method-value", "embedding", "range-function", "variadic"}},
 }
 
 func TestWays(t *testing.T) {
