@@ -43,6 +43,7 @@ var waysOf = []struct {
 	{"cluster", []string{"map", "method-expression", "embedding", "promoted", "generic-function", "label"}},
 	{"manager", []string{"map", "method-value", "embedding", "range-function", "closure"}},
 	{"world", []string{"map", "method-value", "embedding", "range-function", "variadic"}},
+	{"script", []string{"array", "label", "generic-function", "pointer", "embedding", "variadic"}},
 }
 
 func TestWays(t *testing.T) {
